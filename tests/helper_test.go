@@ -1,0 +1,88 @@
+package tests
+
+import (
+	"reflect"
+	"slices"
+	"testing"
+)
+
+// sentinel marks the spare capacity behind a guarded list.
+const sentinel = -777
+
+// guarded returns a copy of a list with spare capacity, and a check that neither the list nor the capacity was written.
+func guarded(list []int) ([]int, func(t *testing.T, name string)) {
+	whole := append(slices.Clone(list), sentinel, sentinel, sentinel)
+	before := slices.Clone(whole)
+	return whole[:len(list)], func(t *testing.T, name string) {
+		t.Helper()
+		if !slices.Equal(whole, before) {
+			t.Errorf("%s changed its argument: %v became %v", name, before, whole)
+		}
+	}
+}
+
+// results gathers what a call returns, its last result being whether it succeeded.
+func results(all ...any) []any { return all }
+
+func succeeded(all []any) bool { return all[len(all)-1].(bool) }
+
+// isZero reports whether a result is the zero value; an empty slice is the same as nil.
+func isZero(result any) bool {
+	v := reflect.ValueOf(result)
+	return v.IsZero() || v.Kind() == reflect.Slice && v.Len() == 0
+}
+
+// mustFail checks that a call failed, with the zero value of every result.
+func mustFail(t *testing.T, name string, all []any) {
+	t.Helper()
+	for _, result := range all {
+		if !isZero(result) {
+			t.Errorf("%s: want a failure with zero results, got %v", name, all)
+			return
+		}
+	}
+}
+
+// mustReturn checks that a call succeeded with just these results before the last one.
+func mustReturn(t *testing.T, name string, all []any, want ...any) {
+	t.Helper()
+	if !succeeded(all) || !reflect.DeepEqual(all[:len(all)-1], want) {
+		t.Errorf("%s: want %v and true, got %v", name, want, all)
+	}
+}
+
+// eachList calls visit with all lists of n numbers in low..high, in lexicographic order.
+func eachList(n, low, high int, visit func(list []int)) {
+	list := make([]int, 0, n)
+	var grow func()
+	grow = func() {
+		if len(list) == n {
+			visit(slices.Clone(list))
+			return
+		}
+		for x := low; x <= high; x++ {
+			list = append(list, x)
+			grow()
+			list = list[:len(list)-1]
+		}
+	}
+	grow()
+}
+
+// mixer gives the same numbers in every run.
+type mixer struct{ state uint64 }
+
+// next returns a number in low..high.
+func (m *mixer) next(low, high int) int {
+	m.state = m.state*6364136223846793005 + 1442695040888963407
+	return low + int((m.state>>33)%uint64(high-low+1))
+}
+
+// list returns n numbers in low..high.
+func (m *mixer) list(n, low, high int) []int {
+	list := make([]int, n)
+	for i := range list {
+		list[i] = m.next(low, high)
+	}
+	return list
+}
