@@ -438,30 +438,44 @@ func fillFrom(things []int, next int, room int) ([]int, bool) {
 	return nil, false
 }
 
+// joinNumbers returns numbers in decimal with a separator between them.
+func joinNumbers(numbers []int, separator string) string {
+	words := make([]string, len(numbers))
+	for i, number := range numbers {
+		words[i] = strconv.Itoa(number)
+	}
+	return strings.Join(words, separator)
+}
+
+// splitNumbers returns the numbers between separators. It fails if there are more than so many, or if one is none.
+// Atoi also takes signs and superfluous zeros, which no text has: the caller compares the text of what it makes of the numbers.
+func splitNumbers(s string, separator string, most int) ([]int, bool) {
+	words := strings.SplitN(s, separator, most)
+	numbers := make([]int, len(words))
+	for i, word := range words {
+		number, err := strconv.Atoi(word)
+		if err != nil {
+			return nil, false
+		}
+		numbers[i] = number
+	}
+	return numbers, true
+}
+
 // ThingsText returns the sizes with - between them.
 func ThingsText(things []int) (string, bool) {
 	if !AreThings(things) {
 		return "", false
 	}
-	words := make([]string, len(things))
-	for i, size := range things {
-		words[i] = strconv.Itoa(size)
-	}
-	return strings.Join(words, "-"), true
+	return joinNumbers(things, "-"), true
 }
 
 // ParseThings returns the things with a ThingsText. It fails if there are none.
 func ParseThings(s string) ([]int, bool) {
-	words := strings.SplitN(s, "-", MaxThings+1)
-	things := make([]int, len(words))
-	for i, word := range words {
-		size, err := strconv.Atoi(word)
-		if err != nil {
-			return nil, false
-		}
-		things[i] = size
+	things, ok := splitNumbers(s, "-", MaxThings)
+	if !ok {
+		return nil, false
 	}
-	// Atoi also takes signs and superfluous zeros, which no ThingsText has.
 	if text, ok := ThingsText(things); !ok || text != s {
 		return nil, false
 	}

@@ -1,9 +1,12 @@
 package tests
 
 import (
+	"fmt"
 	"reflect"
 	"slices"
 	"testing"
+
+	"loop.example/g01334/impl"
 )
 
 // sentinel marks the spare capacity behind a guarded list.
@@ -11,13 +14,62 @@ const sentinel = -777
 
 // guarded returns a copy of a list with spare capacity, and a check that neither the list nor the capacity was written.
 func guarded(list []int) ([]int, func(t *testing.T, name string)) {
-	whole := append(slices.Clone(list), sentinel, sentinel, sentinel)
+	return guardedBy(list, sentinel)
+}
+
+// guardedBy does so for a list of any kind, with a mark of that kind in the spare capacity.
+func guardedBy[T comparable](list []T, mark T) ([]T, func(t *testing.T, name string)) {
+	whole := append(slices.Clone(list), mark, mark, mark)
 	before := slices.Clone(whole)
 	return whole[:len(list)], func(t *testing.T, name string) {
 		t.Helper()
 		if !slices.Equal(whole, before) {
 			t.Errorf("%s changed its argument: %v became %v", name, before, whole)
 		}
+	}
+}
+
+// markedBook marks memory of books, as sentinel does that of numbers.
+func markedBook() impl.Book { return impl.Book{Thick: sentinel, Tall: sentinel} }
+
+func overwrite[T any](list []T, mark T) {
+	list = list[:cap(list)]
+	for i := range list {
+		list[i] = mark
+	}
+}
+
+// spoil overwrites all memory that results give access to, the capacity behind their lengths with it.
+func spoil(all []any) {
+	for _, result := range all {
+		switch list := result.(type) {
+		case []int:
+			overwrite(list, sentinel)
+		case []impl.Book:
+			overwrite(list, markedBook())
+		case [][]int:
+			for _, inner := range list {
+				spoil([]any{inner})
+			}
+			clear(list)
+		}
+	}
+}
+
+// mustKeep checks that a call changes no argument, shares no memory with one, and returns the same when it is called again.
+func mustKeep(t *testing.T, name string, call func() []any, kept ...func(t *testing.T, name string)) {
+	t.Helper()
+	first := call()
+	want := fmt.Sprint(first)
+	for _, check := range kept {
+		check(t, name)
+	}
+	spoil(first)
+	for _, check := range kept {
+		check(t, name+" shares memory and")
+	}
+	if again := fmt.Sprint(call()); again != want {
+		t.Errorf("%s: %s, and %s when called again", name, want, again)
 	}
 }
 
