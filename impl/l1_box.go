@@ -147,6 +147,15 @@ func canBePacked(things []int, room int) bool {
 	return AreThings(things) && isRoom(room) && slices.Max(things) <= room
 }
 
+// numbersBelow returns 0, 1, .. up to the one before n.
+func numbersBelow(n int) []int {
+	numbers := make([]int, n)
+	for i := range numbers {
+		numbers[i] = i
+	}
+	return numbers
+}
+
 func sumOf(sizes []int) int {
 	sum := 0
 	for _, size := range sizes {
@@ -208,10 +217,7 @@ func GreatestFirst(things []int, room int) ([]int, bool) {
 
 // greatestFirst returns the indices of sizes in falling order of these.
 func greatestFirst(sizes []int) []int {
-	order := make([]int, len(sizes))
-	for i := range order {
-		order[i] = i
-	}
+	order := numbersBelow(len(sizes))
 	slices.SortStableFunc(order, func(i, j int) int { return sizes[j] - sizes[i] })
 	return order
 }
@@ -460,6 +466,29 @@ func splitNumbers(s string, separator string, most int) ([]int, bool) {
 		numbers[i] = number
 	}
 	return numbers, true
+}
+
+// joinRows returns rows of numbers with a separator between the numbers of a row, and with , between rows.
+func joinRows(rows [][]int, separator string) string {
+	words := make([]string, len(rows))
+	for i, row := range rows {
+		words[i] = joinNumbers(row, separator)
+	}
+	return strings.Join(words, ",")
+}
+
+// splitRows returns the rows of so many numbers with , between them. It fails as splitNumbers does, and leaves as much to the caller.
+func splitRows(s string, separator string, most int, numbers int) ([][]int, bool) {
+	words := strings.SplitN(s, ",", most)
+	rows := make([][]int, len(words))
+	for i, word := range words {
+		row, ok := splitNumbers(word, separator, numbers)
+		if !ok || len(row) != numbers {
+			return nil, false
+		}
+		rows[i] = row
+	}
+	return rows, true
 }
 
 // ThingsText returns the sizes with - between them.

@@ -377,24 +377,8 @@ func TestTextsThatAreNone(t *testing.T) {
 	}
 }
 
-// TestTextsOfShortStrings tries all strings of few bytes: just those are parsed that are the text of what they parse to.
 func TestTextsOfShortStrings(t *testing.T) {
-	const bytes = "0129-+ "
-	for n := 0; n <= 5; n++ {
-		eachList(n, 0, len(bytes)-1, func(list []int) {
-			var text strings.Builder
-			for _, k := range list {
-				text.WriteByte(bytes[k])
-			}
-			things, ok := impl.ParseThings(text.String())
-			if !ok && isThingsText(text.String()) {
-				t.Errorf("ParseThings of %q fails", text.String())
-			}
-			if back, okBack := impl.ThingsText(things); ok && (!okBack || back != text.String()) {
-				t.Errorf("ParseThings of %q is %v", text.String(), things)
-			}
-		})
-	}
+	mustParseTexts(t, "0129-+ ", 5, isThingsText, impl.ParseThings, impl.ThingsText)
 }
 
 // isThingsText knows all sizes by their texts.

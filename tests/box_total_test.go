@@ -3,8 +3,6 @@ package tests
 import (
 	"fmt"
 	"math"
-	"reflect"
-	"slices"
 	"testing"
 
 	"loop.example/g01334/impl"
@@ -141,18 +139,7 @@ func TestBoxArgumentsAreKept(t *testing.T) {
 
 func TestBoxesShareNoMemory(t *testing.T) {
 	boxes, ok := impl.BoxesOf(repeated(1, 9), 3, []int{0, 0, 1, 1, 1, 0, 2, 3, 2})
-	want := [][]int{{0, 1, 5}, {2, 3, 4}, {6, 8}, {7}}
-	if !ok || !reflect.DeepEqual(boxes, want) {
-		t.Fatalf("BoxesOf: want %v, got %v", want, boxes)
-	}
-	for i := range boxes {
-		spoil([]any{boxes[i]})
-		for k := i + 1; k < len(boxes); k++ {
-			if !slices.Equal(boxes[k], want[k]) {
-				t.Errorf("box %d shares memory with box %d", i, k)
-			}
-		}
-	}
+	mustReturnApart(t, "BoxesOf", boxes, ok, [][]int{{0, 1, 5}, {2, 3, 4}, {6, 8}, {7}})
 }
 
 func TestParsedThingsAreNew(t *testing.T) {

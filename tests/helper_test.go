@@ -4,6 +4,7 @@ import (
 	"fmt"
 	"reflect"
 	"slices"
+	"strings"
 	"testing"
 
 	"loop.example/g01334/impl"
@@ -29,8 +30,10 @@ func guardedBy[T comparable](list []T, mark T) ([]T, func(t *testing.T, name str
 	}
 }
 
-// markedBook marks memory of books, as sentinel does that of numbers.
+// markedBook and markedBox mark memory of books and of boxes, as sentinel does that of numbers.
 func markedBook() impl.Book { return impl.Book{Thick: sentinel, Tall: sentinel} }
+
+func markedBox() impl.Box { return impl.Box{Wide: sentinel, Deep: sentinel, High: sentinel} }
 
 func overwrite[T any](list []T, mark T) {
 	list = list[:cap(list)]
@@ -47,6 +50,8 @@ func spoil(all []any) {
 			overwrite(list, sentinel)
 		case []impl.Book:
 			overwrite(list, markedBook())
+		case []impl.Box:
+			overwrite(list, markedBox())
 		case [][]int:
 			for _, inner := range list {
 				spoil([]any{inner})
@@ -95,11 +100,36 @@ func mustFail(t *testing.T, name string, all []any) {
 	}
 }
 
+// isSame reports whether a result is the wanted one; an empty slice is the same as nil.
+func isSame(result, want any) bool {
+	if reflect.DeepEqual(result, want) {
+		return true
+	}
+	v, w := reflect.ValueOf(result), reflect.ValueOf(want)
+	return v.Kind() == reflect.Slice && v.Type() == w.Type() && v.Len() == 0 && w.Len() == 0
+}
+
 // mustReturn checks that a call succeeded with just these results before the last one.
 func mustReturn(t *testing.T, name string, all []any, want ...any) {
 	t.Helper()
-	if !succeeded(all) || !reflect.DeepEqual(all[:len(all)-1], want) {
+	if !succeeded(all) || !slices.EqualFunc(all[:len(all)-1], want, isSame) {
 		t.Errorf("%s: want %v and true, got %v", name, want, all)
+	}
+}
+
+// mustReturnApart checks that a call succeeded with just these lists, no two of which share memory.
+func mustReturnApart(t *testing.T, name string, lists [][]int, ok bool, want [][]int) {
+	t.Helper()
+	if !ok || !reflect.DeepEqual(lists, want) {
+		t.Fatalf("%s: want %v and true, got %v %v", name, want, lists, ok)
+	}
+	for i := range lists {
+		spoil([]any{lists[i]})
+		for k := i + 1; k < len(lists); k++ {
+			if !slices.Equal(lists[k], want[k]) {
+				t.Errorf("%s: list %d shares memory with list %d", name, i, k)
+			}
+		}
 	}
 }
 
@@ -119,6 +149,33 @@ func eachList(n, low, high int, visit func(list []int)) {
 		}
 	}
 	grow()
+}
+
+// eachString calls visit with all strings of at most so many of some bytes.
+func eachString(bytes string, most int, visit func(text string)) {
+	for n := 0; n <= most; n++ {
+		eachList(n, 0, len(bytes)-1, func(list []int) {
+			var written strings.Builder
+			for _, k := range list {
+				written.WriteByte(bytes[k])
+			}
+			visit(written.String())
+		})
+	}
+}
+
+// mustParseTexts tries all strings of at most so many of some bytes: just the texts are parsed, to what they tell.
+func mustParseTexts[T any](t *testing.T, bytes string, most int, isText func(s string) bool, parse func(s string) ([]T, bool), textOf func(list []T) (string, bool)) {
+	t.Helper()
+	eachString(bytes, most, func(s string) {
+		list, ok := parse(s)
+		if want := isText(s); ok != want {
+			t.Errorf("%q is parsed: %v, want %v", s, ok, want)
+		}
+		if back, okBack := textOf(list); ok && (!okBack || back != s) {
+			t.Errorf("%q is parsed to %v", s, list)
+		}
+	})
 }
 
 // mixer gives the same numbers in every run.

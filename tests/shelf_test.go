@@ -398,24 +398,7 @@ func TestTextsThatAreNoBooks(t *testing.T) {
 	}
 }
 
-// TestBooksTextsOfShortStrings tries all strings of few bytes: just the texts of books are parsed, to what they tell.
 func TestBooksTextsOfShortStrings(t *testing.T) {
-	const bytes = "01|,-+"
 	isText := regexp.MustCompile(`^([1-9]\d?|100)\|([1-9]\d?|100)(,([1-9]\d?|100)\|([1-9]\d?|100))*$`)
-	for n := 0; n <= 7; n++ {
-		eachList(n, 0, len(bytes)-1, func(list []int) {
-			var written strings.Builder
-			for _, k := range list {
-				written.WriteByte(bytes[k])
-			}
-			text := written.String()
-			books, ok := impl.ParseBooks(text)
-			if want := isText.MatchString(text); ok != want {
-				t.Errorf("ParseBooks of %q: %v, want %v", text, ok, want)
-			}
-			if back, okBack := impl.BooksText(books); ok && (!okBack || back != text) {
-				t.Errorf("ParseBooks of %q is %v", text, books)
-			}
-		})
-	}
+	mustParseTexts(t, "01|,-+", 7, isText.MatchString, impl.ParseBooks, impl.BooksText)
 }
