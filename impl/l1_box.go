@@ -468,6 +468,18 @@ func splitNumbers(s string, separator string, most int) ([]int, bool) {
 	return numbers, true
 }
 
+// parseNumbers returns the numbers, at most so many, of which s is the text. It fails if there are none.
+func parseNumbers(s string, separator string, most int, textOf func(numbers []int) (string, bool)) ([]int, bool) {
+	numbers, ok := splitNumbers(s, separator, most)
+	if !ok {
+		return nil, false
+	}
+	if text, ok := textOf(numbers); !ok || text != s {
+		return nil, false
+	}
+	return numbers, true
+}
+
 // joinRows returns rows of numbers with a separator between the numbers of a row, and with , between rows.
 func joinRows(rows [][]int, separator string) string {
 	words := make([]string, len(rows))
@@ -501,12 +513,5 @@ func ThingsText(things []int) (string, bool) {
 
 // ParseThings returns the things with a ThingsText. It fails if there are none.
 func ParseThings(s string) ([]int, bool) {
-	things, ok := splitNumbers(s, "-", MaxThings)
-	if !ok {
-		return nil, false
-	}
-	if text, ok := ThingsText(things); !ok || text != s {
-		return nil, false
-	}
-	return things, true
+	return parseNumbers(s, "-", MaxThings, ThingsText)
 }

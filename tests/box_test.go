@@ -73,16 +73,8 @@ func TestBoxExample(t *testing.T) {
 }
 
 func TestAreThings(t *testing.T) {
-	for _, things := range [][]int{{1}, {100}, {4, 7, 3, 6}, repeated(1, 9), repeated(100, 9), {1, 100, 1}} {
-		if !impl.AreThings(things) {
-			t.Errorf("%v are things", things)
-		}
-	}
-	for _, things := range badThings() {
-		if impl.AreThings(things) {
-			t.Errorf("%v are no things", things)
-		}
-	}
+	good := [][]int{{1}, {100}, {4, 7, 3, 6}, repeated(1, 9), repeated(100, 9), {1, 100, 1}}
+	mustTellApart(t, "AreThings", impl.AreThings, good, badThings())
 }
 
 func TestRulesByHand(t *testing.T) {
@@ -347,19 +339,9 @@ func TestThingsTexts(t *testing.T) {
 		"1-1-1-1-1-1-1-1-1":                   repeated(1, 9),
 		"100-100-100-100-100-100-100-100-100": repeated(100, 9),
 	}
-	for text, things := range texts {
-		mustReturn(t, "ThingsText", results(impl.ThingsText(things)), text)
-		mustReturn(t, "ParseThings", results(impl.ParseThings(text)), things)
-	}
 	m := &mixer{state: 5}
-	for range 300 {
-		things := m.list(m.next(1, impl.MaxThings), 1, impl.MaxSize)
-		text, ok := impl.ThingsText(things)
-		if !ok {
-			t.Errorf("ThingsText of %v fails", things)
-		}
-		mustReturn(t, "ParseThings of "+text, results(impl.ParseThings(text)), things)
-	}
+	next := func() []int { return m.list(m.next(1, impl.MaxThings), 1, impl.MaxSize) }
+	mustBeTexts(t, texts, next, impl.ParseThings, impl.ThingsText)
 }
 
 func TestTextsThatAreNone(t *testing.T) {

@@ -30,6 +30,26 @@ func guardedBy[T comparable](list []T, mark T) ([]T, func(t *testing.T, name str
 	}
 }
 
+// guardedRows does so for a list of lists, and for each of these.
+func guardedRows(rows [][]int) ([][]int, func(t *testing.T, name string)) {
+	whole := make([][]int, 0, len(rows)+1)
+	var checks []func(t *testing.T, name string)
+	for _, row := range append(slices.Clone(rows), []int{sentinel}) {
+		list, check := guarded(row)
+		whole, checks = append(whole, list), append(checks, check)
+	}
+	before := slices.Clone(whole)
+	return whole[:len(rows)], func(t *testing.T, name string) {
+		t.Helper()
+		if !reflect.DeepEqual(whole, before) {
+			t.Errorf("%s changed its argument: %v became %v", name, before, whole)
+		}
+		for _, check := range checks {
+			check(t, name)
+		}
+	}
+}
+
 // markedBook and markedBox mark memory of books and of boxes, as sentinel does that of numbers.
 func markedBook() impl.Book { return impl.Book{Thick: sentinel, Tall: sentinel} }
 
@@ -161,6 +181,38 @@ func eachString(bytes string, most int, visit func(text string)) {
 			}
 			visit(written.String())
 		})
+	}
+}
+
+// mustTellApart checks that a property is told of all good lists and of no bad one.
+func mustTellApart[T any](t *testing.T, name string, has func(list []T) bool, good, bad [][]T) {
+	t.Helper()
+	for _, list := range good {
+		if !has(list) {
+			t.Errorf("%s is false of %v", name, list)
+		}
+	}
+	for _, list := range bad {
+		if has(list) {
+			t.Errorf("%s is true of %v", name, list)
+		}
+	}
+}
+
+// mustBeTexts checks that lists and their texts are made of each other: those given, and what 300 calls of next return.
+func mustBeTexts[T any](t *testing.T, texts map[string][]T, next func() []T, parse func(s string) ([]T, bool), textOf func(list []T) (string, bool)) {
+	t.Helper()
+	for text, list := range texts {
+		mustReturn(t, fmt.Sprint("the text of ", list), results(textOf(list)), text)
+		mustReturn(t, "parsed "+text, results(parse(text)), list)
+	}
+	for range 300 {
+		list := next()
+		text, ok := textOf(list)
+		if !ok {
+			t.Errorf("%v has no text", list)
+		}
+		mustReturn(t, "parsed "+text, results(parse(text)), list)
 	}
 }
 

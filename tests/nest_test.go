@@ -93,16 +93,8 @@ func TestNestExample(t *testing.T) {
 }
 
 func TestAreBoxes(t *testing.T) {
-	for _, boxes := range [][]impl.Box{exampleNest(), cubes(1), cubes(50), sameNested(1, 50, 25, 7), sameNested(50, 1, 1, 7), cubes(7, 6, 5, 4, 3, 2, 1)} {
-		if !impl.AreBoxes(boxes) {
-			t.Errorf("%v are boxes", boxes)
-		}
-	}
-	for _, boxes := range badNests() {
-		if impl.AreBoxes(boxes) {
-			t.Errorf("%v are no boxes", boxes)
-		}
-	}
+	good := [][]impl.Box{exampleNest(), cubes(1), cubes(50), sameNested(1, 50, 25, 7), sameNested(50, 1, 1, 7), cubes(7, 6, 5, 4, 3, 2, 1)}
+	mustTellApart(t, "AreBoxes", impl.AreBoxes, good, badNests())
 }
 
 func TestFittingByHand(t *testing.T) {
@@ -381,19 +373,9 @@ func TestBoxesTexts(t *testing.T) {
 		strings.Repeat("50x50x50,", 6) + "50x50x50": sameNested(50, 50, 50, 7),
 		"1x1x1,2x2x2,3x3x3,4x4x4,5x5x5,6x6x6,7x7x7": cubes(1, 2, 3, 4, 5, 6, 7),
 	}
-	for text, boxes := range texts {
-		mustReturn(t, "BoxesText", results(impl.BoxesText(boxes)), text)
-		mustReturn(t, "ParseBoxes", results(impl.ParseBoxes(text)), boxes)
-	}
 	m := &mixer{state: 24}
-	for range 300 {
-		boxes := m.nested(m.next(1, impl.MaxNested), impl.MaxSide)
-		text, ok := impl.BoxesText(boxes)
-		if !ok {
-			t.Errorf("BoxesText of %v fails", boxes)
-		}
-		mustReturn(t, "ParseBoxes of "+text, results(impl.ParseBoxes(text)), boxes)
-	}
+	next := func() []impl.Box { return m.nested(m.next(1, impl.MaxNested), impl.MaxSide) }
+	mustBeTexts(t, texts, next, impl.ParseBoxes, impl.BoxesText)
 }
 
 func TestTextsThatAreNoBoxes(t *testing.T) {

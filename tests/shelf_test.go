@@ -75,16 +75,8 @@ func TestShelfExample(t *testing.T) {
 }
 
 func TestAreBooks(t *testing.T) {
-	for _, books := range [][]impl.Book{exampleBooks(), sameBooks(1, 1, 1), sameBooks(100, 100, 1), sameBooks(1, 100, 12), sameBooks(100, 1, 12)} {
-		if !impl.AreBooks(books) {
-			t.Errorf("%v are books", books)
-		}
-	}
-	for _, books := range badBooks() {
-		if impl.AreBooks(books) {
-			t.Errorf("%v are no books", books)
-		}
-	}
+	good := [][]impl.Book{exampleBooks(), sameBooks(1, 1, 1), sameBooks(100, 100, 1), sameBooks(1, 100, 12), sameBooks(100, 1, 12)}
+	mustTellApart(t, "AreBooks", impl.AreBooks, good, badBooks())
 }
 
 func TestIsShelving(t *testing.T) {
@@ -368,19 +360,9 @@ func TestBooksTexts(t *testing.T) {
 		strings.Repeat("1|100,", 11) + "1|100": sameBooks(1, 100, 12),
 		strings.Repeat("100|100,", 11) + "100|100": sameBooks(100, 100, 12),
 	}
-	for text, books := range texts {
-		mustReturn(t, "BooksText", results(impl.BooksText(books)), text)
-		mustReturn(t, "ParseBooks", results(impl.ParseBooks(text)), books)
-	}
 	m := &mixer{state: 17}
-	for range 300 {
-		books := m.books(m.next(1, impl.MaxBooks), impl.MaxThick, impl.MaxThick)
-		text, ok := impl.BooksText(books)
-		if !ok {
-			t.Errorf("BooksText of %v fails", books)
-		}
-		mustReturn(t, "ParseBooks of "+text, results(impl.ParseBooks(text)), books)
-	}
+	next := func() []impl.Book { return m.books(m.next(1, impl.MaxBooks), impl.MaxThick, impl.MaxThick) }
+	mustBeTexts(t, texts, next, impl.ParseBooks, impl.BooksText)
 }
 
 func TestTextsThatAreNoBooks(t *testing.T) {
