@@ -503,6 +503,23 @@ func splitRows(s string, separator string, most int, numbers int) ([][]int, bool
 	return rows, true
 }
 
+// parseRows returns the values, at most so many, of which s is the text, each one being told by a row of so many numbers.
+// It fails if there are none.
+func parseRows[T any](s string, separator string, most int, numbers int, valueOf func(row []int) T, textOf func(values []T) (string, bool)) ([]T, bool) {
+	rows, ok := splitRows(s, separator, most, numbers)
+	if !ok {
+		return nil, false
+	}
+	values := make([]T, len(rows))
+	for i, row := range rows {
+		values[i] = valueOf(row)
+	}
+	if text, ok := textOf(values); !ok || text != s {
+		return nil, false
+	}
+	return values, true
+}
+
 // ThingsText returns the sizes with - between them.
 func ThingsText(things []int) (string, bool) {
 	if !AreThings(things) {

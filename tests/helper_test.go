@@ -50,10 +50,14 @@ func guardedRows(rows [][]int) ([][]int, func(t *testing.T, name string)) {
 	}
 }
 
-// markedBook and markedBox mark memory of books and of boxes, as sentinel does that of numbers.
+// markedBook, markedBox and markedThing mark memory of books, of boxes and of things, as sentinel does that of numbers.
 func markedBook() impl.Book { return impl.Book{Thick: sentinel, Tall: sentinel} }
 
 func markedBox() impl.Box { return impl.Box{Wide: sentinel, Deep: sentinel, High: sentinel} }
+
+func markedThing() impl.Thing {
+	return impl.Thing{Weight: sentinel, Bears: sentinel, High: sentinel}
+}
 
 func overwrite[T any](list []T, mark T) {
 	list = list[:cap(list)]
@@ -72,6 +76,8 @@ func spoil(all []any) {
 			overwrite(list, markedBook())
 		case []impl.Box:
 			overwrite(list, markedBox())
+		case []impl.Thing:
+			overwrite(list, markedThing())
 		case [][]int:
 			for _, inner := range list {
 				spoil([]any{inner})
@@ -169,6 +175,34 @@ func eachList(n, low, high int, visit func(list []int)) {
 		}
 	}
 	grow()
+}
+
+// listsOfSome returns all lists of some of the numbers below n, none of them as well, each one at most once, in lexicographic order.
+func listsOfSome(n int) [][]int {
+	all := [][]int{{}}
+	var grow func(list []int)
+	grow = func(list []int) {
+		for k := range n {
+			if !slices.Contains(list, k) {
+				longer := append(slices.Clone(list), k)
+				all = append(all, longer)
+				grow(longer)
+			}
+		}
+	}
+	grow(nil)
+	return all
+}
+
+// firstLongest returns the first one of the longest lists with a property.
+func firstLongest(lists [][]int, has func(list []int) bool) []int {
+	var longest []int
+	for _, list := range lists {
+		if len(list) > len(longest) && has(list) {
+			longest = list
+		}
+	}
+	return longest
 }
 
 // eachString calls visit with all strings of at most so many of some bytes.

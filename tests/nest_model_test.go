@@ -160,36 +160,8 @@ func takenOutInModel(boxes []impl.Box, plan []int, k int) ([]int, bool) {
 	return nil, false
 }
 
-// listsOfBoxesInModel returns all lists of some of n boxes, each one at most once, in lexicographic order.
-func listsOfBoxesInModel(n int) [][]int {
-	all := [][]int{{}}
-	var grow func(list []int)
-	grow = func(list []int) {
-		for k := range n {
-			if !slices.Contains(list, k) {
-				longer := append(slices.Clone(list), k)
-				all = append(all, longer)
-				grow(longer)
-			}
-		}
-	}
-	grow(nil)
-	return all
-}
-
-// firstLongestInModel returns the first one of the longest lists of boxes with a property.
-func firstLongestInModel(lists [][]int, has func(list []int) bool) []int {
-	var longest []int
-	for _, list := range lists {
-		if len(list) > len(longest) && has(list) {
-			longest = list
-		}
-	}
-	return longest
-}
-
 func longestNestInModel(boxes []impl.Box) []int {
-	return firstLongestInModel(listsOfBoxesInModel(len(boxes)), func(list []int) bool {
+	return firstLongest(listsOfSome(len(boxes)), func(list []int) bool {
 		for i := range list[1:] {
 			if !fitsInModel(boxes[list[i]], boxes[list[i+1]]) {
 				return false
@@ -211,7 +183,7 @@ func areApartInModel(boxes []impl.Box, list []int) bool {
 }
 
 func apartInModel(boxes []impl.Box) []int {
-	return firstLongestInModel(listsOfBoxesInModel(len(boxes)), func(list []int) bool {
+	return firstLongest(listsOfSome(len(boxes)), func(list []int) bool {
 		return slices.IsSorted(list) && areApartInModel(boxes, list)
 	})
 }
