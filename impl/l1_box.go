@@ -164,6 +164,15 @@ func sumOf(sizes []int) int {
 	return sum
 }
 
+// sumBy returns the sum of what sizeOf tells of each element.
+func sumBy[T any](list []T, sizeOf func(element T) int) int {
+	sum := 0
+	for _, element := range list {
+		sum += sizeOf(element)
+	}
+	return sum
+}
+
 // AreThings reports whether a list of any numbers are things.
 func AreThings(things []int) bool {
 	if len(things) < 1 || len(things) > MaxThings {

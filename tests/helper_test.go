@@ -50,13 +50,17 @@ func guardedRows(rows [][]int) ([][]int, func(t *testing.T, name string)) {
 	}
 }
 
-// markedBook, markedBox and markedThing mark memory of books, of boxes and of things, as sentinel does that of numbers.
+// markedBook, markedBox, markedThing and markedItem mark memory of books, of boxes, of things and of items, as sentinel does that of numbers.
 func markedBook() impl.Book { return impl.Book{Thick: sentinel, Tall: sentinel} }
 
 func markedBox() impl.Box { return impl.Box{Wide: sentinel, Deep: sentinel, High: sentinel} }
 
 func markedThing() impl.Thing {
 	return impl.Thing{Weight: sentinel, Bears: sentinel, High: sentinel}
+}
+
+func markedItem() impl.Item {
+	return impl.Item{Weight: sentinel, Bulk: sentinel, Value: sentinel}
 }
 
 func overwrite[T any](list []T, mark T) {
@@ -78,6 +82,8 @@ func spoil(all []any) {
 			overwrite(list, markedBox())
 		case []impl.Thing:
 			overwrite(list, markedThing())
+		case []impl.Item:
+			overwrite(list, markedItem())
 		case [][]int:
 			for _, inner := range list {
 				spoil([]any{inner})
