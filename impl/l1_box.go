@@ -519,6 +519,11 @@ func parseRows[T any](s string, separator string, most int, numbers int, valueOf
 	if !ok {
 		return nil, false
 	}
+	return valuesOfText(s, rows, valueOf, textOf)
+}
+
+// valuesOfText returns the values told by rows. It fails if s is not the text of them.
+func valuesOfText[T any](s string, rows [][]int, valueOf func(row []int) T, textOf func(values []T) (string, bool)) ([]T, bool) {
 	values := make([]T, len(rows))
 	for i, row := range rows {
 		values[i] = valueOf(row)

@@ -50,7 +50,7 @@ func guardedRows(rows [][]int) ([][]int, func(t *testing.T, name string)) {
 	}
 }
 
-// markedBook, markedBox, markedThing and markedItem mark memory of books, of boxes, of things and of items, as sentinel does that of numbers.
+// markedBook, markedBox, markedThing, markedItem and markedPiece mark memory of books, of boxes, of things, of items and of pieces, as sentinel does that of numbers.
 func markedBook() impl.Book { return impl.Book{Thick: sentinel, Tall: sentinel} }
 
 func markedBox() impl.Box { return impl.Box{Wide: sentinel, Deep: sentinel, High: sentinel} }
@@ -61,6 +61,10 @@ func markedThing() impl.Thing {
 
 func markedItem() impl.Item {
 	return impl.Item{Weight: sentinel, Bulk: sentinel, Value: sentinel}
+}
+
+func markedPiece() impl.Piece {
+	return impl.Piece{Wide: sentinel, High: sentinel, Value: sentinel}
 }
 
 func overwrite[T any](list []T, mark T) {
@@ -84,6 +88,8 @@ func spoil(all []any) {
 			overwrite(list, markedThing())
 		case []impl.Item:
 			overwrite(list, markedItem())
+		case []impl.Piece:
+			overwrite(list, markedPiece())
 		case [][]int:
 			for _, inner := range list {
 				spoil([]any{inner})
