@@ -2,7 +2,6 @@ package tests
 
 import (
 	"fmt"
-	"math"
 	"math/big"
 	"regexp"
 	"slices"
@@ -369,8 +368,8 @@ func TestMostOfOneByHand(t *testing.T) {
 		{24, 24, pieceOf(13, 1, 0), 24, 35},
 	}
 	for _, c := range cases {
-		// The piece may have any Value.
-		for _, value := range []int{c.p.Value, 0, 1, 1000, 1001, -1, math.MinInt, math.MaxInt} {
+		// The piece may have any Value that a piece can have.
+		for _, value := range []int{c.p.Value, 0, 1, 2, 999, impl.MaxValue} {
 			p := pieceOf(c.p.Wide, c.p.High, value)
 			name := fmt.Sprintf("MostOfOne of %d and %d by %v", c.wide, c.high, p)
 			mustReturn(t, name, results(impl.MostOfOne(c.wide, c.high, p, false)), c.level)

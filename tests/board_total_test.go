@@ -22,16 +22,21 @@ func badBoards() []boardInModel {
 	return boards
 }
 
-func badPieces() [][]impl.Piece {
-	lists := [][]impl.Piece{nil, {}, samePieces(1, 1, 1, 5), samePieces(24, 24, 0, 5), samePieces(1, 1, 1, 1000)}
+// noPieces are each beyond a limit of a piece.
+func noPieces() []impl.Piece {
 	var pieces []impl.Piece
 	for _, bad := range badBoardSides() {
-		pieces = append(pieces, pieceOf(bad, 2, 3), pieceOf(1, bad, 3), pieceOf(bad, bad, 3))
+		pieces = append(pieces, pieceOf(bad, 2, 3), pieceOf(1, bad, 3), pieceOf(bad, bad, 3), pieceOf(bad, 1, 0))
 	}
 	for _, bad := range []int{-1, -2, impl.MaxValue + 1, impl.MaxValue + 2, 10000, math.MinInt, math.MaxInt} {
-		pieces = append(pieces, pieceOf(1, 2, bad), pieceOf(3, 3, bad), pieceOf(bad, bad, bad))
+		pieces = append(pieces, pieceOf(1, 2, bad), pieceOf(3, 3, bad), pieceOf(24, 24, bad), pieceOf(bad, bad, bad))
 	}
-	for _, bad := range pieces {
+	return pieces
+}
+
+func badPieces() [][]impl.Piece {
+	lists := [][]impl.Piece{nil, {}, samePieces(1, 1, 1, 5), samePieces(24, 24, 0, 5), samePieces(1, 1, 1, 1000)}
+	for _, bad := range noPieces() {
 		lists = append(lists, []impl.Piece{bad}, append(examplePieces(), bad), append([]impl.Piece{bad}, examplePieces()...))
 	}
 	return lists
@@ -118,10 +123,13 @@ func TestPiecesAreRequired(t *testing.T) {
 			}
 		}
 	}
-	for _, bad := range badBoardSides() {
-		for _, p := range []impl.Piece{pieceOf(bad, 1, 1), pieceOf(1, bad, 1), pieceOf(bad, bad, 1), pieceOf(bad, 1, 0)} {
-			mustFail(t, fmt.Sprint("MostOfOne by ", p), results(impl.MostOfOne(5, 3, p, false)))
-			mustFail(t, fmt.Sprint("MostOfOne by turned ", p), results(impl.MostOfOne(5, 3, p, true)))
+}
+
+func TestOnePieceIsRequired(t *testing.T) {
+	for _, p := range noPieces() {
+		for _, b := range []boardInModel{{5, 3}, {1, 1}, {1, 2}, {24, 24}} {
+			mustFail(t, fmt.Sprint("MostOfOne of ", b, " by ", p), results(impl.MostOfOne(b.wide, b.high, p, false)))
+			mustFail(t, fmt.Sprint("MostOfOne of ", b, " by turned ", p), results(impl.MostOfOne(b.wide, b.high, p, true)))
 		}
 	}
 }
