@@ -3,8 +3,10 @@ package tests
 import (
 	"fmt"
 	"reflect"
+	"runtime"
 	"slices"
 	"strings"
+	"sync"
 	"testing"
 
 	"loop.example/g01334/impl"
@@ -169,6 +171,32 @@ func mustReturnApart(t *testing.T, name string, lists [][]int, ok bool, want [][
 			}
 		}
 	}
+}
+
+// mustEndGoroutines checks that calls leave no goroutines behind.
+func mustEndGoroutines(t *testing.T, calls func()) {
+	t.Helper()
+	before := runtime.NumGoroutine()
+	calls()
+	// A goroutine that has told that it is done may need a moment more to end.
+	if after := runtime.NumGoroutine(); after > before+100 {
+		t.Errorf("%d goroutines before, %d after", before, after)
+	}
+}
+
+// mustAgreeAtTheSameTime makes a call from many goroutines: all get the same.
+func mustAgreeAtTheSameTime(t *testing.T, name string, call func() []any) {
+	t.Helper()
+	want := call()
+	var group sync.WaitGroup
+	for range 20 {
+		group.Go(func() {
+			if got := call(); !reflect.DeepEqual(got, want) {
+				t.Errorf("%s: want %v, got %v", name, want, got)
+			}
+		})
+	}
+	group.Wait()
 }
 
 // eachList calls visit with all lists of n numbers in low..high, in lexicographic order.

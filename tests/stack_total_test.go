@@ -3,9 +3,6 @@ package tests
 import (
 	"fmt"
 	"math"
-	"reflect"
-	"runtime"
-	"sync"
 	"testing"
 
 	"loop.example/g01334/impl"
@@ -135,38 +132,25 @@ func failingAt(k int) []impl.Thing {
 
 // TestNoGoroutineRemains stops the goroutine that sends weights at each thing of a stack, often.
 func TestNoGoroutineRemains(t *testing.T) {
-	before := runtime.NumGoroutine()
 	all := []int{0, 1, 2, 3, 4, 5, 6}
-	for k := range impl.MaxStacked - 1 {
-		for range 300 {
-			mustReturn(t, fmt.Sprint("WhoFails at ", k), results(impl.WhoFails(failingAt(k), all)), k)
-			mustReturn(t, fmt.Sprint("IsSafe at ", k), results(impl.IsSafe(failingAt(k), all)), false)
+	mustEndGoroutines(t, func() {
+		for k := range impl.MaxStacked - 1 {
+			for range 300 {
+				mustReturn(t, fmt.Sprint("WhoFails at ", k), results(impl.WhoFails(failingAt(k), all)), k)
+				mustReturn(t, fmt.Sprint("IsSafe at ", k), results(impl.IsSafe(failingAt(k), all)), false)
+			}
 		}
-	}
-	for range 300 {
-		mustReturn(t, "WeightsAbove", results(impl.WeightsAbove(failingAt(0), all)), []int{6, 5, 4, 3, 2, 1, 0})
-		mustReturn(t, "IsSafe of nothing", results(impl.IsSafe(failingAt(0), nil)), true)
-	}
-	// A goroutine that has told that it is done may need a moment more to end.
-	if after := runtime.NumGoroutine(); after > before+100 {
-		t.Errorf("%d goroutines before, %d after", before, after)
-	}
+		for range 300 {
+			mustReturn(t, "WeightsAbove", results(impl.WeightsAbove(failingAt(0), all)), []int{6, 5, 4, 3, 2, 1, 0})
+			mustReturn(t, "IsSafe of nothing", results(impl.IsSafe(failingAt(0), nil)), true)
+		}
+	})
 }
 
-// TestStacksAtTheSameTime calls the functions from many goroutines, all with the same arguments.
 func TestStacksAtTheSameTime(t *testing.T) {
 	list, stack := exampleStackables(), []int{0, 1}
 	for name, call := range stackableCalls() {
-		want := call(list, stack, 2)
-		var group sync.WaitGroup
-		for range 20 {
-			group.Go(func() {
-				if got := call(list, stack, 2); !reflect.DeepEqual(got, want) {
-					t.Errorf("%s: want %v, got %v", name, want, got)
-				}
-			})
-		}
-		group.Wait()
+		mustAgreeAtTheSameTime(t, name, func() []any { return call(list, stack, 2) })
 	}
 }
 
