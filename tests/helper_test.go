@@ -52,7 +52,7 @@ func guardedRows(rows [][]int) ([][]int, func(t *testing.T, name string)) {
 	}
 }
 
-// markedBook, markedBox, markedThing, markedItem and markedPiece mark memory of books, of boxes, of things, of items and of pieces, as sentinel does that of numbers.
+// markedBook, markedBox, markedThing, markedItem, markedPiece and markedClue mark memory of books, of boxes, of things, of items, of pieces and of clues, as sentinel does that of numbers.
 func markedBook() impl.Book { return impl.Book{Thick: sentinel, Tall: sentinel} }
 
 func markedBox() impl.Box { return impl.Box{Wide: sentinel, Deep: sentinel, High: sentinel} }
@@ -67,6 +67,10 @@ func markedItem() impl.Item {
 
 func markedPiece() impl.Piece {
 	return impl.Piece{Wide: sentinel, High: sentinel, Value: sentinel}
+}
+
+func markedClue() impl.Clue {
+	return impl.Clue{Kind: sentinel, A: sentinel, B: sentinel, C: sentinel}
 }
 
 func overwrite[T any](list []T, mark T) {
@@ -92,6 +96,8 @@ func spoil(all []any) {
 			overwrite(list, markedItem())
 		case []impl.Piece:
 			overwrite(list, markedPiece())
+		case impl.Puzzle:
+			overwrite(list.Clues, markedClue())
 		case [][]int:
 			for _, inner := range list {
 				spoil([]any{inner})
@@ -144,6 +150,10 @@ func mustFail(t *testing.T, name string, all []any) {
 func isSame(result, want any) bool {
 	if reflect.DeepEqual(result, want) {
 		return true
+	}
+	if p, ok := result.(impl.Puzzle); ok {
+		q, ok := want.(impl.Puzzle)
+		return ok && p.Things == q.Things && slices.Equal(p.Clues, q.Clues)
 	}
 	v, w := reflect.ValueOf(result), reflect.ValueOf(want)
 	return v.Kind() == reflect.Slice && v.Type() == w.Type() && v.Len() == 0 && w.Len() == 0
@@ -273,35 +283,39 @@ func mustTellApart[T any](t *testing.T, name string, has func(list []T) bool, go
 	}
 }
 
-// mustBeTexts checks that lists and their texts are made of each other: those given, and what 300 calls of next return.
-func mustBeTexts[T any](t *testing.T, texts map[string][]T, next func() []T, parse func(s string) ([]T, bool), textOf func(list []T) (string, bool)) {
+// mustBeTexts checks that values and their texts are made of each other: those given, and what 300 calls of next return.
+func mustBeTexts[V any](t *testing.T, texts map[string]V, next func() V, parse func(s string) (V, bool), textOf func(value V) (string, bool)) {
 	t.Helper()
-	for text, list := range texts {
-		mustReturn(t, fmt.Sprint("the text of ", list), results(textOf(list)), text)
-		mustReturn(t, "parsed "+text, results(parse(text)), list)
+	for text, value := range texts {
+		mustReturn(t, fmt.Sprint("the text of ", value), results(textOf(value)), text)
+		mustReturn(t, "parsed "+text, results(parse(text)), value)
 	}
 	for range 300 {
-		list := next()
-		text, ok := textOf(list)
+		value := next()
+		text, ok := textOf(value)
 		if !ok {
-			t.Errorf("%v has no text", list)
+			t.Errorf("%v has no text", value)
 		}
-		mustReturn(t, "parsed "+text, results(parse(text)), list)
+		mustReturn(t, "parsed "+text, results(parse(text)), value)
 	}
 }
 
-// mustParseTexts tries all strings of at most so many of some bytes: just the texts are parsed, to what they tell.
-func mustParseTexts[T any](t *testing.T, bytes string, most int, isText func(s string) bool, parse func(s string) ([]T, bool), textOf func(list []T) (string, bool)) {
+// mustParseText checks that a string is parsed just if it is a text, to what it tells.
+func mustParseText[V any](t *testing.T, s string, isText func(s string) bool, parse func(s string) (V, bool), textOf func(value V) (string, bool)) {
 	t.Helper()
-	eachString(bytes, most, func(s string) {
-		list, ok := parse(s)
-		if want := isText(s); ok != want {
-			t.Errorf("%q is parsed: %v, want %v", s, ok, want)
-		}
-		if back, okBack := textOf(list); ok && (!okBack || back != s) {
-			t.Errorf("%q is parsed to %v", s, list)
-		}
-	})
+	value, ok := parse(s)
+	if want := isText(s); ok != want {
+		t.Errorf("%q is parsed: %v, want %v", s, ok, want)
+	}
+	if back, okBack := textOf(value); ok && (!okBack || back != s) {
+		t.Errorf("%q is parsed to %v", s, value)
+	}
+}
+
+// mustParseTexts tries all strings of at most so many of some bytes.
+func mustParseTexts[V any](t *testing.T, bytes string, most int, isText func(s string) bool, parse func(s string) (V, bool), textOf func(value V) (string, bool)) {
+	t.Helper()
+	eachString(bytes, most, func(s string) { mustParseText(t, s, isText, parse, textOf) })
 }
 
 // mixer gives the same numbers in every run.
