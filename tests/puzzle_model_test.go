@@ -17,8 +17,11 @@ func hiddenInModel(many int) [][]int {
 	return all
 }
 
-// allCluesInModel returns all clues of so many things, whatever that number is.
+// allCluesInModel returns all clues of so many things, whatever that number is: there are none unless it is 2, 3 or 4.
 func allCluesInModel(things int) []impl.Clue {
+	if things != 2 && things != 3 && things != 4 {
+		return nil
+	}
 	var clues []impl.Clue
 	for c := 0; c <= 24; c++ {
 		clues = append(clues, clueOf(0, 0, 0, c))

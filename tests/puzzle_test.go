@@ -243,7 +243,7 @@ func TestDoesFitByHand(t *testing.T) {
 	}
 }
 
-// TestIsClue asks for all numbers within the bounds and about them, and for things that may not be hidden as well.
+// TestIsClue asks for all numbers within the bounds and about them, and for numbers of things that cannot be hidden as well.
 func TestIsClue(t *testing.T) {
 	for things := -1; things <= 6; things++ {
 		clues := map[impl.Clue]bool{}
@@ -265,17 +265,28 @@ func TestIsClue(t *testing.T) {
 	}
 }
 
-// TestIsClueOfAnyThings takes the number of things as it is, however great or small.
-func TestIsClueOfAnyThings(t *testing.T) {
-	for _, things := range []int{math.MinInt, math.MinInt + 1, -100, 0, 1, 5, 100, math.MaxInt} {
-		for _, c := range []impl.Clue{clueOf(0, 0, 0, 0), clueOf(0, 0, 0, 24), clueOf(2, 6, 0, 1), clueOf(2, 24, 0, 4), clueOf(3, 1, 0, 0), clueOf(3, 24, 0, 1), clueOf(5, 0, 0, 1), clueOf(5, 0, 0, 6)} {
-			if !impl.IsClue(things, c) {
-				t.Errorf("%v is no clue of %d things", c, things)
+// TestIsClueOfNoHiddenThings asks for numbers of things that hidden things cannot have, of which nothing is a clue.
+func TestIsClueOfNoHiddenThings(t *testing.T) {
+	clues := allCluesInModel(4)
+	// These tell of things that there would be if there were so many.
+	clues = append(clues, clueOf(1, 0, 4, 1), clueOf(4, 4, 3, 36), clueOf(1, 98, 99, 0), clueOf(4, 0, math.MaxInt-1, 1), clueOf(1, math.MaxInt-1, 5, 0))
+	for _, things := range append(badThingCounts(), math.MinInt+1, -100, -3, 7, 8, 24, 1<<32, 1<<32+2, 1<<62, math.MaxInt-1) {
+		for _, c := range clues {
+			if impl.IsClue(things, c) {
+				t.Errorf("%v is a clue of %d things", c, things)
 			}
 		}
-		for _, c := range []impl.Clue{clueOf(1, 0, 1, 1), clueOf(4, 1, 0, 36), clueOf(1, 98, 99, 0), clueOf(4, 0, math.MaxInt-1, 1), clueOf(1, math.MaxInt-1, 5, 0), clueOf(4, 0, math.MaxInt, 1), clueOf(1, math.MaxInt, 0, 1)} {
-			if is, want := impl.IsClue(things, c), things > c.A && things > c.B; is != want {
-				t.Errorf("%v is a clue of %d things: %v", c, things, is)
+	}
+}
+
+// TestIsClueOfThingsThatThereAreNot asks for clues of hidden things that tell of a thing behind the last one, or before the first one.
+func TestIsClueOfThingsThatThereAreNot(t *testing.T) {
+	for things := 2; things <= 4; things++ {
+		for _, k := range []int{things, things + 1, 5, 100, math.MaxInt, -1, -2, math.MinInt} {
+			for _, c := range []impl.Clue{clueOf(1, 0, k, 1), clueOf(1, k, 1, 0), clueOf(4, 1, k, 6), clueOf(4, k, 0, 6)} {
+				if impl.IsClue(things, c) {
+					t.Errorf("%v is a clue of %d things", c, things)
+				}
 			}
 		}
 	}
