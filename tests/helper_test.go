@@ -98,6 +98,10 @@ func spoil(all []any) {
 			overwrite(list, markedPiece())
 		case impl.Puzzle:
 			overwrite(list.Clues, markedClue())
+		case []string:
+			overwrite(list, "overwritten")
+		case impl.Desk:
+			spoil([]any{list.Things, list.Boxes, list.Stack})
 		case [][]int:
 			for _, inner := range list {
 				spoil([]any{inner})
